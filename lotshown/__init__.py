@@ -1,0 +1,1 @@
+"""Lotshown: a lottery whose draws can be checked."""

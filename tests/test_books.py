@@ -214,6 +214,7 @@ class Absences(unittest.TestCase):
     def changed(self, entries, told):
         place, left, right = told
         rows = [list(told), told[:2], told + (None,), None, True, "", (), (None, left, right), (True, left, right)]
+        rows += [(-1, None, None), (0, None, None), (5, None, None), (6, None, None)]
         rows += [(place + step, left, right) for step in (-1, 1, 2)]
         sides = [((at,), paper(16, entries, 0)) for at in range(2)]
         sides += [(entry, paper(16, entries, at)) for at, entry in enumerate(entries)] + [None, True, (), [], "ab"]

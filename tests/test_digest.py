@@ -17,11 +17,11 @@ def known(octets):
     return hashlib.sha256(bytes(octets)).hexdigest()
 
 
-def clash(width):
-    """Return two different octets with one seal of the width."""
+def clash(width, size=2):
+    """Return two different octets of this size with one seal of the width."""
     seen = {}
-    for number in range(100000):
-        octets = (number >> 8, number & 255)
+    for number in range(65536):
+        octets = (number >> 8, number & 255) + (0,) * (size - 2)
         other = seen.setdefault(known(octets)[:2 * width], octets)
         if other != octets:
             return other, octets
@@ -82,6 +82,10 @@ class Seals(unittest.TestCase):
         one, other = clash(2)
         self.assertIs(is_coincidence(2, (one, other)), True)
         self.assertIs(is_coincidence(1, (one, other)), True)
+
+    def test_coincidences_of_long_octets(self):
+        self.assertIs(is_coincidence(1, clash(1, 100000)), True)
+        self.assertIs(is_coincidence(1, clash(1, 100001)), False)
 
     def test_no_coincidences(self):
         one, other = clash(1)

@@ -161,7 +161,10 @@ class Systems(unittest.TestCase):
         more = (("choice", 7, 1), ("figures", 9, 1), ("tail", 9, 1), ("choice", 9, 2))
         system = ((1, 2, 3, 4, 5, 6, 7), ((0, 1, 2, 3),), ((0, 1, 2, 3, 4),), tuple(range(1, 10)))
         self.assertEqual(held(more, system), 5040)
-        for row in ((game, ((ten, ten, ten, (0, 1, 2, 3, 4, 5)),)), (more, system)):
+        apart = (("choice", 2, 1), ("choice", 41, 1), ("choice", 61, 1))
+        rows = (tuple(range(1, 3)), tuple(range(1, 42)), tuple(range(1, 62)))
+        self.assertEqual(held(apart, rows), 5002)
+        for row in ((game, ((ten, ten, ten, (0, 1, 2, 3, 4, 5)),)), (more, system), (apart, rows)):
             with self.assertRaises(TooMuch):
                 picks_of(row[0], row[1])
 

@@ -88,6 +88,13 @@ class Papers(unittest.TestCase):
         self.assertIs(shows(32, "", 5, 2, entries[2], told), False)
         self.assertIs(shows(32, top, 5, 2, entries[2], told), True)
 
+    def test_places_just_beyond_the_ends(self):
+        for size in SIZES:
+            entries = book(size)
+            top = root(32, entries)
+            self.assertIs(shows(32, top, size, -1, entries[0], paper(32, entries, 0)), False)
+            self.assertIs(shows(32, top, size, size, entries[-1], paper(32, entries, size - 1)), False)
+
     def test_sizes_at_the_bound(self):
         told = tuple(seal(32, (number,)) for number in range(12))
         top = seal(32, inputs(32, 4096, 4095, (5,), told)[-1])

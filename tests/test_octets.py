@@ -62,6 +62,11 @@ class Octets(unittest.TestCase):
         self.assertEqual(hexed(whole), bytes(whole).hex())
         self.assertEqual(unhexed(hexed(whole)), whole)
 
+    def test_as_many_octets_as_there_may_be(self):
+        self.assertEqual(unhexed("0a" * 100000), (10,) * 100000)
+        with self.assertRaises(Malformed):
+            unhexed("0a" * 100001)
+
     def test_wrong_hex(self):
         for text in ("0", "abc", "0g", "AB", "aB", "0x", " 1", "1 ", "+1", "\u0661\u0661", "00\n", "-1", "00" * 100000 + "00"):
             with self.assertRaises(Malformed):

@@ -53,8 +53,8 @@ def plain_states(scheme, coalition, most):
     return met
 
 
-def plain_machine(scheme, coalition):
-    """Return the machine, with the states numbered again and again until nothing changes."""
+def plain_order(scheme, coalition):
+    """List the states by their numbers: they are numbered again and again until nothing changes."""
     order = [begin(0)]
     while True:
         met = [begin(0)]
@@ -65,8 +65,13 @@ def plain_machine(scheme, coalition):
         unique = list(dict.fromkeys(met))
         unique.sort(key=lambda state: state[:2])
         if unique == order:
-            break
+            return order
         order = unique
+
+
+def plain_machine(scheme, coalition):
+    """Return the machine of the scheme for the coalition."""
+    order = plain_order(scheme, coalition)
     numbers = {state: number for number, state in enumerate(order)}
     nodes = []
     for state in order:
@@ -77,6 +82,45 @@ def plain_machine(scheme, coalition):
             row = (word, tuple(numbers[after] for after in nexts))
             nodes.append(row if prices is None else row + (prices,))
     return tuple(nodes)
+
+
+def plain_play(scheme, coalition, order, plan, values):
+    """Return the record and the result of a plan, told by the states in their order."""
+    state, deeds, withheld = begin(0), [], []
+    members = len(coalition)
+    while True:
+        draw, place, held, late, _ = state
+        word, nexts, _ = node_of(scheme, coalition, state)
+        turn = place - members
+        if turn == len(scheme[2]) and scheme[0] == "shares" and len(scheme[2]) - members >= scheme[3][0]:
+            deeds.extend(("opened",) + pair for pair in sorted(withheld))
+        if word == "end":
+            return deeds, nexts
+        if turn < 0:
+            state = nexts[values[draw][coalition[place]]]
+        elif turn < len(scheme[2]):
+            party = scheme[2][turn]
+            value = values[draw][party]
+            if party not in coalition:
+                state = nexts[value]
+                deeds.append(("reveals", party, value))
+                continue
+            choice = plan[order.index(state)]
+            state = nexts[choice]
+            deeds.append(("withholds", party) if choice else ("reveals", party, value))
+            if choice:
+                withheld.append((party, value))
+            if state[0] > draw:
+                deeds.append(("void",))
+                withheld = []
+        elif word == "choice":
+            choice = plan[order.index(state)]
+            if choice == 0:
+                deeds.append(("opened",) + min(late))
+            state = nexts[choice]
+        else:
+            deeds.append(("beacon", values[-1]))
+            state = nexts[values[-1]]
 
 
 def all_values(scheme):

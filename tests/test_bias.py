@@ -250,6 +250,15 @@ class EnoughDigits(unittest.TestCase):
         self.assertEqual(least_tries(2, 2, 6, (1, 3)), 1)
         self.assertEqual(least_tries(64, 256, 7, (1, 7 ** 9)), 1)
 
+    def test_64_digits_and_tries_at_most(self):
+        # Below 7, 2^64 leaves 2 numbers over, and 2^65 leaves 4; with less digits drawing is more unfair.
+        self.assertEqual(unfairness(7, ("mod", 64, 1), 2), (5, 7 * 2 ** 63))
+        self.assertEqual(least_digits("mod", 1, 2, 7, (5, 7 * 2 ** 63)), 64)
+        self.assertIsNone(least_digits("mod", 1, 2, 7, pair(Fraction(12, 7 * 2 ** 65))))
+        self.assertEqual(unfairness(6, ("again", 3, 64), 2), pair(Fraction(2, 3 * 4 ** 64)))
+        self.assertEqual(least_tries(3, 2, 6, pair(Fraction(2, 3 * 4 ** 64))), 64)
+        self.assertIsNone(least_tries(3, 2, 6, pair(Fraction(2, 3 * 4 ** 65))))
+
     def test_out_of_range(self):
         for n in (0, -1, TOP + 1):
             with self.assertRaises(OutOfRange):

@@ -107,6 +107,13 @@ class Fairness(unittest.TestCase):
         self.assertEqual(gain(machine, ((1, 10),) * 10 + ((0, 1),) * 54), ((0, 1), ()))
         self.assertIs(is_fair(machine, ((1, 10),) * 10 + ((0, 1),) * 54), True)
 
+    def test_the_last_result(self):
+        machine = (("chance", (1, 2)), ("end", 0), ("end", 63))
+        told = ((1, 2),) + ((0, 1),) * 62 + ((1, 2),)
+        self.assertIs(is_fair(machine, told), True)
+        self.assertEqual(gain(machine, told), ((0, 1), ()))
+        self.assertEqual(gain(machine, ((2, 3),) + told[1:63] + ((1, 3),)), ((1, 6), (63,)))
+
     def test_prices(self):
         half = told_of((1, 2), (1, 2))
         for machine in (EXAMPLE, (("choice", (1, 2), (1, 0)), ("end", 0), ("end", 1)),

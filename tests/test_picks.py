@@ -177,6 +177,19 @@ class Picks(unittest.TestCase):
         later = next(octet for octet in octets if octet < 252)
         self.assertEqual(drawn(game, seed), pick_of(game, later % 36))
 
+    def test_the_last_try(self):
+        # Below 129, the first 16 octets of this stream are all drawn again, and the 16th one counts.
+        game, seed = (("choice", 43, 1), ("choice", 3, 1)), (14, 190, 2)
+        octets = plain_stream(seed, 17)
+        self.assertEqual((many(game), min(octets[:16]), octets[14:]), (129, 129, (245, 236, 67)))
+        self.assertEqual(drawn(game, seed), pick_of(game, 236 - 129))
+
+    def test_many_tries_with_two_octets(self):
+        game, seed = (("choice", 91, 1), ("choice", 11, 1), ("choice", 33, 1)), (4, 67)
+        numbers = [high * 256 + low for high, low in zip(plain_stream(seed, 32)[::2], plain_stream(seed, 32)[1::2])]
+        self.assertEqual((many(game), [number < 33033 for number in numbers[:11]]), (33033, [False] * 10 + [True]))
+        self.assertEqual(drawn(game, seed), pick_of(game, numbers[10]))
+
 
 if __name__ == "__main__":
     unittest.main()

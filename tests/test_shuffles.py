@@ -74,7 +74,8 @@ class Recipes(unittest.TestCase):
 
     def test_other_kinds(self):
         self.check((value, False) for value in ODD_VALUES + (
-            ["below", 5], ("Below", 5), (None, 5), ("belo", 5), (b"below", 5), (("below",), 5), ([], 5), ([], 5, 1), ("mod", 5, 1), "below"))
+            ["below", 5], ("Below", 5), (None, 5), ("belo", 5), (b"below", 5), (("below",), 5), ([], 5), ([], 5, 1), ("mod", 5, 1), "below", ("games", GAME),
+            (None, GAME), ("weight", (1, 2), 1), (None, (1, 2), 1)))
 
     def test_draws(self):
         for recipe in RECIPES:

@@ -6,7 +6,11 @@ import unittest
 
 PACKAGE = pathlib.Path(__file__).resolve().parent.parent / "lotshown"
 
-CLASSES = {"errors": ("LotError", "OutOfRange", "Malformed", "NotThere", "Refused", "TooMuch")}
+CLASSES = {"errors": ("LotError", "OutOfRange", "Malformed", "NotThere", "Refused", "TooMuch"), "office": ("Round", "Claimed", "Office")}
+
+# The rules of the language allow no parameter with the name of a builtin, so that "round" is called otherwise.
+METHODS = ("do(self, deed)", "time(self)", "log(self)", "current(self)", "publications(self)", "accounts(self)", "state(self, at_round, number)",
+           "prize(self, at_round, number)")
 
 FUNCTIONS = {
     "names": ("is_name(value)", "is_number(value, least, most)", "is_names(value, least, most)"),
@@ -76,6 +80,21 @@ FUNCTIONS = {
               "greatest_leave(coins, parts, member)", "worth(coins, parts)", "first_worse(course)"),
     "claims": ("is_ticket(width, value)", "is_terms(value)", "is_claims(value)", "slip_value(number)", "stub_value(number)",
                "words(terms, ticket, prize, events, now)", "state(terms, ticket, prize, events, now)"),
+    "payouts": ("paid_of(terms, tickets, prizes, courses, now)", "paid_to(terms, tickets, prizes, courses, now)"),
+    "lapses": ("is_cast(terms, ticket, events, value)", "ends(terms, ticket, prize, events, now, cast)",
+               "course_to(terms, ticket, prize, events, now, cast, end)", "is_course(terms, ticket, prize, events, now, cast, value)"),
+    "charter": ("is_charter(value)", "size_of(charter)", "pick_by(charter, result)", "scheme_of(charter)", "is_deed(charter, value)"),
+    "drawing": ("binding(round_number, number)", "may_show(charter, round_number, promises, party, paper, salt)",
+                "outs(charter, promises, papers)", "turn(charter, promises, papers, deeds)",
+                "may_do(charter, round_number, promises, papers, deeds, deed)", "is_ready(charter, promises, papers, end, time)",
+                "may_draw(charter, promises, papers, deeds, times)", "result(charter, promises, papers, deeds)"),
+    "office": ("office_of(charter, log)",),
+    "audit": ("entry_of(charter, deed)", "sale_of(charter, entry)", "fault(charter, publications)", "settled(charter, publications)",
+              "clash(width, one, other)"),
+    "answers": ("certify(charter, publications, question)",),
+    "judge": ("holds(charter, bulletins, certificate)",),
+    "scripts": ("line_of_deed(charter, deed)", "deed_of_line(charter, line)", "log_text(charter, log)", "log_of(charter, text)",
+                "run_script(office, text)"),
     "groves": ("root(width, entries)", "paper(width, entries, place)", "shows(width, root, size, place, entry, paper)",
                "inputs(width, size, place, entry, paper)", "coincidence(width, inputs)"),
 }
@@ -93,6 +112,14 @@ class Interface(unittest.TestCase):
     def test_classes(self):
         for name, wanted in CLASSES.items():
             self.assertEqual(told(name)[0], list(wanted))
+
+    def test_methods(self):
+        rows = ast.parse((PACKAGE / "office.py").read_text()).body
+        office, = [row for row in rows if isinstance(row, ast.ClassDef) and row.name == "Office"]
+        found = [f"{row.name}({ast.unparse(row.args)})" for row in office.body if isinstance(row, ast.FunctionDef)]
+        self.assertEqual(found[0], "__init__(self, charter)")
+        self.assertEqual([row for row in METHODS if row not in found], [])
+        self.assertEqual(office.bases, [])
 
     def test_functions(self):
         for name, wanted in FUNCTIONS.items():

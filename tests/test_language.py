@@ -29,8 +29,11 @@ NODES = (
     ast.If, ast.Raise, ast.ImportFrom, ast.alias, ast.Expr, ast.Pass, ast.Break, ast.Continue, ast.BoolOp, ast.BinOp, ast.UnaryOp,
     ast.Lambda, ast.IfExp, ast.Dict, ast.ListComp, ast.DictComp, ast.SetComp, ast.GeneratorExp, ast.comprehension, ast.Compare,
     ast.Call, ast.keyword, ast.Constant, ast.Attribute, ast.Subscript, ast.Name, ast.List, ast.Tuple, ast.Slice, ast.expr_context,
-    ast.boolop, ast.operator, ast.unaryop, ast.cmpop, ast.JoinedStr, ast.FormattedValue, ast.Delete,
+    ast.boolop, ast.operator, ast.unaryop, ast.cmpop, ast.JoinedStr, ast.FormattedValue, ast.Delete, ast.Try, ast.ExceptHandler,
 )
+OWN_ERRORS = ("OutOfRange", "Malformed", "NotThere", "Refused", "TooMuch")
+# What strings, numbers, lists, dicts, sets and bytes have as a method or an attribute.
+BUILTIN_NAMES = {name for value in ("", 0, [], {}, set(), b"") for name in dir(value)}
 
 
 def all_nodes():
@@ -122,7 +125,7 @@ class Names(unittest.TestCase):
             for node in ast.walk(tree):
                 for word in self.bound_by(node):
                     self.assertNotIn(word, fixed, name)
-                    self.assertRegex(word, r"\A(_?[A-Za-z][A-Za-z0-9_]*|_)\Z", name)
+                    self.assertRegex(word, r"\A(_?[A-Za-z][A-Za-z0-9_]*|_|__init__)\Z", name)
 
     def bound_by(self, node):
         if isinstance(node, ast.arg):
@@ -137,14 +140,61 @@ class Names(unittest.TestCase):
                 self.assertIn(node.id, CALLED, place)
 
     def test_methods(self):
+        attributes, methods = self.attributes(), self.own_methods()
         for name, tree in TREES.items():
             above = parents(tree)
             for node in ast.walk(tree):
-                if isinstance(node, ast.Attribute):
+                if isinstance(node, ast.Attribute) and node.attr not in attributes:
                     place = f"{name}:{node.lineno}"
-                    self.assertIn(node.attr, METHODS, place)
+                    self.assertIn(node.attr, METHODS + methods, place)
                     self.assertIsInstance(above[node], ast.Call, place)
+                    self.assertIs(above[node].func, node, place)
                     self.assertEqual(above[node].keywords, [], place)
+
+    def classes(self):
+        return [node for _, node in all_nodes() if isinstance(node, ast.ClassDef)]
+
+    def own_methods(self):
+        return [row.name for node in self.classes() for row in node.body if isinstance(row, ast.FunctionDef)]
+
+    def attributes(self):
+        """List the attributes that methods assign to their own objects."""
+        return [node.attr for one in self.classes() for node in ast.walk(one) if isinstance(node, ast.Attribute)
+                and isinstance(node.ctx, ast.Store) and isinstance(node.value, ast.Name) and node.value.id == "self"]
+
+    def test_own_methods_and_attributes(self):
+        methods, attributes = self.own_methods(), self.attributes()
+        self.assertTrue(attributes)
+        for word in methods + attributes:
+            if word != "__init__":
+                self.assertNotIn(word, BUILTIN_NAMES)
+                self.assertNotIn(word, BARRED)
+                self.assertRegex(word, r"\A_?[a-z][a-z0-9_]*\Z")
+        self.assertEqual([word for word in methods if word in attributes], [])
+        for node in self.classes():
+            names = [row.name for row in node.body if isinstance(row, ast.FunctionDef)]
+            self.assertEqual(len(names), len(set(names)))
+
+    def test_attributes_are_assigned_to_objects_of_their_own(self):
+        for place, node in all_nodes():
+            if isinstance(node, ast.Attribute) and isinstance(node.ctx, (ast.Store, ast.Del)):
+                self.assertIsInstance(node.value, ast.Name, place)
+                self.assertEqual(node.value.id, "self", place)
+
+    def test_own_errors_are_caught_around_calls(self):
+        for place, node in all_nodes():
+            if isinstance(node, ast.ExceptHandler):
+                self.assertIn(node.type.id, OWN_ERRORS, place)
+                self.assertIsNone(node.name, place)
+            if isinstance(node, ast.Try):
+                self.assertEqual((node.orelse, node.finalbody), ([], []), place)
+
+    def test_no_parameter_has_the_name_of_a_class_or_an_import(self):
+        for name, tree in TREES.items():
+            fixed = [alias.name for _, alias in imported(tree)] + [row.name for row in tree.body if isinstance(row, ast.ClassDef)]
+            for node in ast.walk(tree):
+                if isinstance(node, ast.arg):
+                    self.assertNotIn(node.arg, fixed, name)
 
 
 class Expressions(unittest.TestCase):

@@ -175,7 +175,8 @@ def _fits_name(standing, word, name):
         return name == standing[1]
     if word in ("yield", "rule"):
         return name in standing[1:]
-    return word == "lost" or standing[0] == "open" or name != standing[1]
+    # Who shows is not the reporter; of an open bearer's ticket there is none.
+    return name != standing[1]
 
 
 def _fits_paper(width, ticket, event):

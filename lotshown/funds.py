@@ -109,5 +109,5 @@ def first_worse(course):
 def _is_worse(coins, parts, entry):
     if entry[0] == "in":
         return entry[3] < least_entry(coins, parts, entry[2])
-    # Who leaves as the last one takes from nobody.
-    return entry[0] == "out" and len(parts) > 1 and entry[2] > greatest_leave(coins, parts, entry[1])
+    # Who leaves as the last one may take all, and so takes from nobody.
+    return entry[0] == "out" and entry[2] > greatest_leave(coins, parts, entry[1])

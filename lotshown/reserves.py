@@ -180,10 +180,7 @@ def loses(program, loss):
         return False
     way, loop = loss
     state, _ = _behind(program, start_state(program[0]), way)
-    return len(loop) > 0 and _leads_back(program, state, loop)
-
-
-def _leads_back(program, state, loop):
+    # The changes of a loop without outcomes come to 0, so that it is none.
     after, change = _behind(program, state, loop)
     return after == state and change < 0
 

@@ -88,16 +88,9 @@ def _plain_deed_of(charter, words):
         if kind == "opener":
             kind = "number" if by_shares(charter) else "octets"
         elif kind == "more":
-            kind = _kind_of_more(words[3])
+            kind = "octets" if words[3] in ("show", "lost") else "text"
         parts.append(_part_of(kind, word))
     return tuple(parts)
-
-
-def _kind_of_more(word):
-    """Return how the last word of an event is read."""
-    if word == "pass":
-        return "text"
-    return "octets" if word in ("show", "lost") else "nothing"
 
 
 def _part_of(kind, word):
@@ -105,9 +98,7 @@ def _part_of(kind, word):
         return number_of(word)
     if kind == "octets":
         return unhexed(word)
-    if kind == "nothing" and word == _NOTHING:
-        return None
-    return word
+    return None if word == _NOTHING else word
 
 
 def _sale_of(charter, words):

@@ -16,7 +16,7 @@ from tests.groups import GREAT
 GAME = (("choice", 5, 2),)
 CLASSES = (((2,),), ((1,),))
 TABLE = (10, (1, 10), 10 ** 6, (("shared", 300, (1, 2), 0, "roll"), ("fixed", 20, (0, 1), 0, "keep")))
-BLOCKS = ((0, 50, "sal"), (50, 60, "tom"), (70, 1000, "sal"))
+BLOCKS = ((0, 25, "sal"), (25, 50, "sal"), (50, 60, "tom"), (70, 1000, "sal"))
 PARTIES = ("pat", "quin", "abe")
 TERMS = (100, 30, 10)
 SMALL_GROUP = (23, 11, 2, 3)

@@ -236,6 +236,13 @@ class Failing(unittest.TestCase):
         self.assertEqual(failing((table, outcomes), (1,) * 9, 0, 6), (0, 1))
         with self.assertRaises(TooMuch):
             failing((table, outcomes), (1,) * 9, 0, 7)
+        # Behind 15 rounds of these there are just 3000 pairs, and behind 14 rounds of those 3001.
+        few = tuple((sold, (0,)) for sold in (39, 41, 116, 131, 154, 161, 235, 264))
+        more = tuple((sold, (0,)) for sold in (27, 91, 105, 186, 225, 226, 230, 262, 273))
+        for rows, rounds in ((few, 16), (more, 14)):
+            self.assertEqual(failing((table, rows), (1,) * len(rows), 0, rounds), (0, 1))
+            with self.assertRaises(TooMuch):
+                failing((table, rows), (1,) * len(rows), 0, rounds + 1)
         # An outcome with the weight 0 leads nowhere.
         self.assertEqual(failing((table, outcomes), (1,) * 8 + (0,), 0, 7), (0, 1))
         with self.assertRaises(TooMuch):

@@ -11,6 +11,7 @@ from lotshown.drawing import result
 from lotshown.errors import Malformed, OutOfRange, Refused
 from lotshown.groves import root
 from lotshown.hits import wins
+from lotshown.octets import of_number
 from lotshown.office import Office
 from lotshown.prizes import settle, start_state
 from lotshown.promises import promise
@@ -413,6 +414,18 @@ class Papers(unittest.TestCase):
             self.assertEqual(fault(SHARES, publications), None if word is None else (0, word), (name, value))
             self.assertEqual(replayed(SHARES, publications), word is None)
 
+    def test_one_turn_and_helps(self):
+        office = Office(SHARES)
+        party = parties_of(SHARES, 0, random.Random(60), (3, 9, 7))[1]
+        for deed in (party.promise(), ("seal",), party.paper(), ("pass", 5), party.withhold(), ("pass", 6), party.help(1), party.help(2), ("draw",)):
+            office.do(deed)
+        right = office.publications()
+        self.assertEqual(told(right, 0, "times"), (0, 5, 5, 6))
+        for times in ((0, 5, 5, 6), (0, 5, 6, 6), (0, 4, 5, 6), (0, 0, 0, 6), (0, 0, 5, 6), (0, 6, 6, 6)):
+            fine = times[1] == times[2]
+            self.assertEqual(fault(SHARES, put(right, 0, "times", times)), None if fine else (0, "deeds"))
+            self.assertEqual(replayed(SHARES, put(right, 0, "times", times)), fine)
+
     def test_without_help_the_draw_waits(self):
         _, _, _, _, _, deeds, _ = self.right[0][0][:7]
         for time, word in ((26, "deeds"), (27, "result")):
@@ -481,8 +494,18 @@ class Clashes(unittest.TestCase):
         with self.assertRaises(Refused):
             clash(1, one, one)
         for width in (0, 33, True, None):
-            with self.assertRaises(OutOfRange):
-                clash(width, one, other)
+            for two in (other, one, book):
+                with self.assertRaises(OutOfRange):
+                    clash(width, one, two)
+
+    def test_books_of_other_sizes(self):
+        short = ((5,),)
+        number = 0
+        while root(1, (of_number(number, 3), (7,))) != root(1, short):
+            number += 1
+        for one, other in ((short, (of_number(number, 3), (7,))), ((of_number(number, 3), (7,)), short)):
+            with self.assertRaises(Refused):
+                clash(1, one, other)
 
     def test_two_books_of_one_bulletin(self):
         # With seals of one octet, two books with the same size and root are soon found; both are right then.

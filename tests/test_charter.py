@@ -225,6 +225,10 @@ class Deeds(unittest.TestCase):
 
     def test_other_kinds(self):
         for charter in (TURNS, SHARES):
+            for deed in (("seal",), ("withhold", "pat"), ("promise", "pat", SEAL), ("help", "pat", 1, 2, 3), ("paper", "pat", ((), (), ()), SALT), ("reveal", "pat", 3, SALT),
+                         ("reveal", "pat", 3, 5), ("sell", "sal", 7, ((1, 2),), "named", "ann"), ("event", 0, 7, "claim", "ann", None)):
+                for word in ("", "deed", deed[0] + "s", deed[0].upper(), None, 0, True, (deed[0],), [deed[0]]):
+                    self.each(charter, [((word,) + deed[1:], False)])
             for value in ODD_VALUES:
                 self.each(charter, [(value, False), ((value,), False), ((value, value), False), (("pass", value), value in (0, 1, 7) and isinstance(value, int)
                                                                                                  and not isinstance(value, bool))])

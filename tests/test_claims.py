@@ -40,7 +40,7 @@ class Tickets(unittest.TestCase):
             changed(BEARER, 1, "named"), changed(BEARER, 2, [slip, stub]), changed(BEARER, 2, (slip,)), changed(BEARER, 2, (slip, stub, slip)),
             changed(BEARER, 2, (slip, None)), changed(BEARER, 2, (None, stub)), changed(BEARER, 2, (slip + "0", stub)), changed(BEARER, 2, (slip, stub[1:])),
             changed(BEARER, 2, ("00FF", stub)), changed(BEARER, 2, (slip, "00fg")), changed(BEARER, 2, slip), changed(BEARER, 2, (1, 2)),
-            changed(BEARER, 0, -1), changed(BEARER, 0, 1000000),
+            changed(BEARER, 0, -1), changed(BEARER, 0, 1000000), changed(BEARER, 1, "other"), changed(BEARER, 1, None), changed(BEARER, 1, ""),
         ):
             self.assertIs(is_ticket(2, value), False, value)
         for value in ODD_VALUES:
@@ -227,6 +227,7 @@ class Bearers(Case):
             self.assertEqual(self.told(BEARER, start + [(230, word, name, None)]), (["stands", "stands", "over"], ("paid", (("bob", 25), ("cid", 25)))))
         for word in ("yield", "rule"):
             self.assertEqual(self.told(BEARER, start + [(150, word, "ann", None)])[0][2], "name")
+            self.assertEqual(self.told(BEARER, start + [(150, word, "contested", None)])[0][2], "name")
             self.assertEqual(self.told(BEARER, [LOST, (130, word, "bob", None)])[0][1], "state")
             self.assertEqual(self.told(BEARER, [(130, word, "bob", None)])[0], ["state"])
             self.assertEqual(self.told(BEARER, [(99, word, "bob", None)])[0], ["early"])

@@ -293,6 +293,18 @@ class Shares(unittest.TestCase):
                 with self.assertRaises(Refused):
                     result(SHARES, self.promises, self.papers, deeds[:many])
 
+    def test_what_is_opened_beyond_m_does_not_count(self):
+        # Of 6 results, and with q = 11: 8 would count as 2.
+        charter = changed(changed(SHARES, 1, (("choice", 4, 2),)), 2, (((2,),), ((1,),)))
+        self.assertIs(is_charter(charter), True)
+        for value, right in ((5, 5), (6, 0), (7, 0), (8, 0), (10, 0)):
+            party, other = Party(charter, 0, 0, self.chance, value), Party(charter, 0, 2, self.chance, 4)
+            promises, papers = (party.seal, None, other.seal), (party.paper()[2:], None, other.paper()[2:])
+            deeds = [party.withhold(), other.reveal(), party.help(2), party.help(1)]
+            for at in range(4):
+                self.assertIs(may_do(charter, 0, promises, papers, deeds[:at], deeds[at]), True)
+            self.assertEqual(result(charter, promises, papers, deeds), (right + 4) % 6)
+
     def test_who_is_out_counts_as_0(self):
         papers = changed(self.papers, 0, None)
         self.assertEqual(result(SHARES, self.promises, papers, [self.withheld[1], self.parties[2].reveal()]), 7)

@@ -65,6 +65,9 @@ class Courses(unittest.TestCase):
             self.assertIs(is_fund_course([ANN, value]), False)
             self.assertIs(is_fund_course([value]), False)
             self.assertIs(is_fund_course([(value, 1)]), False)
+            self.assertIs(is_fund_course([ANN, ("in", value, 1, 30)]), isinstance(value, str) and value == "a")
+            self.assertIs(is_fund_course([ANN, ("in", "bob", value, 30)]), value in (1, 7) and isinstance(value, int) and not isinstance(value, bool))
+            self.assertIs(is_fund_course([ANN, ("out", value, 30)]), isinstance(value, str) and value == "ann")
 
     def test_fund_behind(self):
         self.assertEqual(fund_behind([]), (0, ()))

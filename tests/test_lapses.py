@@ -262,6 +262,8 @@ class Courses(unittest.TestCase):
             wrong = list(right)
             wrong[at] = value
             self.assertIs(self.course(NAMED, [], 150, NO_SALTS, wrong), False, value)
+        for taker in ("one", "two", "ann", "bob"):
+            self.assertIs(self.course(NAMED, [], 150, NO_SALTS, [(150, "pass", "ann", taker)]), taker == "one")
         self.assertIs(self.course(NAMED, [], 150, NO_SALTS, right[1:]), False)
         self.assertIs(self.course(NAMED, [], 150, NO_SALTS, right + right[-1:]), False)
         self.assertIs(self.course(NAMED, [], 150, NO_SALTS, tuple(right)), False)

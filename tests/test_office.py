@@ -239,6 +239,9 @@ class Errors(Case):
                 office.state(at, number)
             with self.assertRaises(NotThere):
                 office.prize(at, number)
+        for ask in (office.state, office.prize):
+            with self.assertRaises(NotThere):
+                ask(-1, 7)
         # What is idle is an event, too.
         for _ in range(60):
             office.do(claim)

@@ -184,6 +184,9 @@ class Losses(unittest.TestCase):
         self.assertIs(loses(LOSING, ([], [winning])), False)
         self.assertIs(loses(LOSING, ([], [])), False)
         self.assertIs(loses(LOSING, ([losing], [])), False)
+        # Changes that come to -1, 0 and 1.
+        program = (LOSING[0], ((19, (1,)), (20, (1,)), (21, (1,))))
+        self.assertEqual([loses(program, ([], [outcome])) for outcome in program[1]], [True, False, False])
 
     def test_loops_that_do_not_lead_back(self):
         rolling, won = TWO[1]

@@ -15,6 +15,7 @@ from lotshown.promises import opens
 _ROUND_SIZE = 4
 _PARTY_SIZE = 1
 _VALUE_SIZE = 8
+_WORDS = ("reveal", "withhold", "help")
 
 
 def binding(round_number, number):
@@ -66,7 +67,7 @@ def turn(charter, promises, papers, deeds):
 
 def may_do(charter, round_number, promises, papers, deeds, deed):
     """Tell whether a reveal, a withhold or a help can be done behind the deeds."""
-    if not is_deed(charter, deed) or deed[1] not in charter[5]:
+    if not is_deed(charter, deed) or deed[0] not in _WORDS or deed[1] not in charter[5]:
         return False
     number = charter[5].index(deed[1])
     following = turn(charter, promises, papers, deeds)

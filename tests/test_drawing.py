@@ -80,6 +80,10 @@ class Turns(unittest.TestCase):
         self.assertIs(self.do(deeds, changed(self.parties[0].reveal(), 1, "quin"), promises), False)
         self.assertIs(self.do(deeds, ("withhold", "quin"), promises), True)
 
+    def test_other_deeds(self):
+        for deed in (("seal",), ("draw",), ("pass", 5), self.parties[0].promise(), ("event", 0, 7, "claim", "pat", None), None, (), "withhold", ["withhold", "pat"], ("withhold", None)):
+            self.assertIs(self.do([], deed), False)
+
     def test_no_helps_and_no_papers(self):
         deeds = [party.withhold() for party in self.parties]
         self.assertIsNone(turn(TURNS, self.promises, NONE, deeds))
@@ -155,6 +159,7 @@ class Shares(unittest.TestCase):
         self.assertEqual(outs(SHARES, self.promises, self.papers), ())
         self.assertEqual(outs(SHARES, changed(self.promises, 1, None), changed(self.papers, 1, None)), (1,))
         self.assertEqual(outs(SHARES, self.promises, changed(self.papers, 2, None)), (2,))
+        self.assertEqual(outs(SHARES, changed(self.promises, 1, None), self.papers), (1,))
         self.assertEqual(outs(SHARES, NONE, NONE), (0, 1, 2))
         party = self.parties[1]
         share = share_of(SMALL_GROUP, party.dealing, 3)

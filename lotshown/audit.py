@@ -4,7 +4,7 @@ from lotshown.books import is_sorted
 from lotshown.charter import by_shares, is_shown, pick_by
 from lotshown.claims import is_time
 from lotshown.digest import check_width, is_seal
-from lotshown.drawing import is_ready, may_do, may_draw, may_show, result
+from lotshown.drawing import may_do, may_draw, may_show, result
 from lotshown.errors import Malformed, Refused
 from lotshown.groves import cut, leaf_input, node_input, root_of
 from lotshown.names import is_number
@@ -157,14 +157,7 @@ def _fits_times(charter, since, bulletin):
     """Tell whether the round could be drawn at its times, when the draw ahead of it was at the time since."""
     _, promises, _, _, papers, deeds, times = bulletin[:7]
     end, first, last, time = times
-    if not since <= end <= first <= last <= time:
-        return False
-    turns = len([deed for deed in deeds if deed[0] != "help"])
-    if turns == 0 and last != end or turns == 1 and last != first:
-        return False
-    if turns > 0 and not is_ready(charter, promises, papers, end, first):
-        return False
-    return may_draw(charter, promises, papers, deeds, times)
+    return since <= end <= first <= last <= time and may_draw(charter, promises, papers, deeds, times)
 
 
 def clash(width, one, other):

@@ -53,15 +53,15 @@ def _is_out(charter, seal, shown):
     return shown is None or not stands(group, threshold, len(charter[5]), shown[0])
 
 
-def _is_turn(deed):
-    return deed[0] in ("reveal", "withhold")
+def _turns_used(deeds):
+    return len([deed for deed in deeds if deed[0] in ("reveal", "withhold")])
 
 
 def turn(charter, promises, papers, deeds):
     """Return the number of the party whose turn it is, or None."""
     out = outs(charter, promises, papers)
     order = [number for number in range(len(charter[5])) if number not in out]
-    used = len([deed for deed in deeds if _is_turn(deed)])
+    used = _turns_used(deeds)
     return order[used] if used < len(order) else None
 
 
@@ -122,9 +122,19 @@ def may_draw(charter, promises, papers, deeds, times):
     span, wait, patience = charter[7]
     if not is_time(time + span + wait) or not is_ready(charter, promises, papers, end, time):
         return False
-    if turn(charter, promises, papers, deeds) is not None:
+    if turn(charter, promises, papers, deeds) is not None or not _fits_turns(charter, promises, papers, deeds, times):
         return False
     return not by_shares(charter) or time >= last + patience or _all_opened(charter, deeds)
+
+
+def _fits_turns(charter, promises, papers, deeds, times):
+    """Tell whether the turns could be used at the times of the first and the last one."""
+    end, first, last, _ = times
+    used = _turns_used(deeds)
+    if used == 0:
+        return first == end and last == end
+    # Who is ready at the first turn stays ready, so that the later turns need no look.
+    return (used > 1 or first == last) and is_ready(charter, promises, papers, end, first)
 
 
 def _all_opened(charter, deeds):

@@ -173,32 +173,48 @@ def any_office(charter, chance, rounds, salts=None, tickets=4):
     return office
 
 
+def led(office, bulletin, book):
+    """Lead an office through a round, by deeds that are taken from its papers, up to the draw."""
+    charter = office.charter
+    _, promises, _, _, papers, deeds, times = bulletin[:7]
+    pass_to(office, times[0])
+    for party, seal in zip(charter[5], promises):
+        if seal is not None:
+            office.do(("promise", party, seal))
+    for entry in book:
+        office.do(sale_of(charter, entry))
+    office.do(("seal",))
+    for party, shown in zip(charter[5], papers):
+        if shown is not None:
+            office.do(("paper", party) + shown)
+    turns = [deed for deed in deeds if deed[0] != "help"]
+    for deed in deeds:
+        if deed[0] != "help":
+            pass_to(office, times[2] if len(turns) > 1 and deed is turns[-1] else times[1])
+        office.do(deed)
+    pass_to(office, times[3])
+    office.do(("draw",))
+
+
 def replayed(charter, publications):
-    """Tell whether an office can be led to just these publications, by deeds that are taken from them."""
+    """Tell whether an office can be led to just these publications."""
     try:
         office = Office(charter)
         for bulletin, book in publications:
-            _, promises, _, _, papers, deeds, times = bulletin[:7]
-            pass_to(office, times[0])
-            for party, seal in zip(charter[5], promises):
-                if seal is not None:
-                    office.do(("promise", party, seal))
-            for entry in book:
-                office.do(sale_of(charter, entry))
-            office.do(("seal",))
-            for party, shown in zip(charter[5], papers):
-                if shown is not None:
-                    office.do(("paper", party) + shown)
-            turns = [deed for deed in deeds if deed[0] != "help"]
-            for deed in deeds:
-                if deed[0] != "help":
-                    pass_to(office, times[2] if len(turns) > 1 and deed is turns[-1] else times[1])
-                office.do(deed)
-            pass_to(office, times[3])
-            office.do(("draw",))
+            led(office, bulletin, book)
         return repr(office.publications()) == repr(publications)
     except (LotError, TypeError, ValueError, KeyError, IndexError, AttributeError):
         return False
+
+
+def drawn_at(charter, promises, papers, deeds, times):
+    """Tell whether an office can draw its first round with just these times behind these deeds."""
+    office = Office(charter)
+    try:
+        led(office, (0, promises, 0, None, papers, deeds, times), ())
+    except LotError:
+        return False
+    return office.publications()[0][0][6] == times
 
 
 def pass_to(office, time):

@@ -2,7 +2,7 @@
 
 import random
 import unittest
-from itertools import product
+from itertools import combinations_with_replacement, product
 
 from lotshown.charter import is_charter, size_of
 from lotshown.checked import row_of, share_of
@@ -10,7 +10,7 @@ from lotshown.drawing import binding, is_ready, may_do, may_draw, may_show, outs
 from lotshown.errors import Refused
 from lotshown.joint import stands
 from tests.groups import bent
-from tests.offices import PARTIES, SHARES, SMALL_GROUP, TURNS, TURNS_OF_OCTETS, Party, changed, parties_of, sealed
+from tests.offices import PARTIES, SHARES, SMALL_GROUP, TURNS, TURNS_OF_OCTETS, Party, changed, drawn_at, parties_of, sealed
 
 NONE = (None, None, None)
 SALT = (9,) * 16
@@ -326,6 +326,77 @@ class Shares(unittest.TestCase):
                 self.assertIs(may_do(charter, 0, promises, papers, deeds[:at], deeds[at]), True)
             self.assertEqual(result(charter, promises, papers, deeds), 8)
             self.assertEqual(result(charter, promises, papers, deeds[:3]), 0)
+
+
+class Times(unittest.TestCase):
+    """The times with which a round can be drawn (points 190, 191, 196 and 197)."""
+
+    def setUp(self):
+        self.chance = random.Random(196)
+
+    def each(self, charter, promises, papers, deeds, most):
+        """Compare all times that do not descend with an office, and return those with which the round can be drawn."""
+        right = []
+        for times in combinations_with_replacement(range(most + 1), 4):
+            found = may_draw(charter, promises, papers, deeds, times)
+            self.assertIs(found, drawn_at(charter, promises, papers, deeds, times), (deeds, times))
+            if found:
+                right.append(times)
+        return right
+
+    def test_no_turn(self):
+        for charter in (TURNS, SHARES):
+            found = self.each(charter, NONE, NONE, [], 4)
+            self.assertEqual(found, [(end, end, end, time) for end in range(5) for time in range(end, 5)])
+
+    def test_one_turn(self):
+        party = parties_of(TURNS, 0, self.chance)[1]
+        for deed in (party.reveal(), party.withhold()):
+            found = self.each(TURNS, (None, party.seal, None), NONE, [deed], 4)
+            self.assertEqual(found, [times for times in combinations_with_replacement(range(5), 4) if times[1] == times[2]])
+
+    def test_more_turns(self):
+        parties = parties_of(TURNS, 0, self.chance)
+        promises = tuple(party.seal for party in parties)
+        deeds = [parties[0].reveal(), parties[1].withhold(), parties[2].reveal()]
+        every = list(combinations_with_replacement(range(5), 4))
+        self.assertEqual(self.each(TURNS, promises, NONE, deeds, 4), every)
+        self.assertEqual(self.each(TURNS, changed(promises, 1, None), NONE, [deeds[0], deeds[2]], 4), every)
+
+    def test_helps_are_no_turns(self):
+        party = parties_of(SHARES, 0, self.chance)[1]
+        promises, papers = (None, party.seal, None), (None, party.paper()[2:], None)
+        found = self.each(SHARES, promises, papers, [party.withhold(), party.help(3), party.help(1)], 4)
+        self.assertEqual(found, [times for times in combinations_with_replacement(range(5), 4) if times[1] == times[2]])
+
+    def test_ready_at_the_first_turn(self):
+        # The parties are ready when all papers were shown, or when patience, here 2, is over.
+        charter = changed(SHARES, 7, (100, 30, 2))
+        parties = parties_of(charter, 0, self.chance, (3, 9, 7))
+        promises, papers = tuple(party.seal for party in parties), tuple(party.paper()[2:] for party in parties)
+        every = list(combinations_with_replacement(range(6), 4))
+        for marks in product((False, True), repeat=3):
+            shown = tuple(paper if mark else None for paper, mark in zip(papers, marks))
+            rows = [party for party, mark in zip(parties, marks) if mark]
+            late = [times for times in every if all(marks) or times[1] >= times[0] + 2]
+            if len(rows) == 0:
+                late = [times for times in every if times[0] == times[1] == times[2] <= times[3] - 2]
+            elif len(rows) == 1:
+                late = [times for times in late if times[1] == times[2]]
+            self.assertEqual(self.each(charter, promises, shown, [party.reveal() for party in rows], 5), late)
+            # What was withheld is waited for until patience is over behind the last turn, too.
+            waited = [times for times in late if len(rows) == 0 or times[3] >= times[2] + 2]
+            self.assertEqual(self.each(charter, promises, shown, [party.withhold() for party in rows], 5), waited)
+
+    def test_a_paper_that_does_not_stand(self):
+        # It makes the parties ready, and its party has no turn.
+        parties = parties_of(SHARES, 0, self.chance)
+        promises = (parties[0].seal, None, parties[2].seal)
+        out = parties[2].paper((1,), ())[2:]
+        found = self.each(SHARES, promises, (parties[0].paper()[2:], None, out), [parties[0].withhold()], 12)
+        self.assertEqual(found, [(end, turned, turned, time) for end, turned, time in combinations_with_replacement(range(13), 3) if time >= turned + 10])
+        found = self.each(SHARES, (None, None, promises[2]), (None, None, out), [], 4)
+        self.assertEqual(found, [(end, end, end, time) for end, time in combinations_with_replacement(range(5), 2)])
 
 
 if __name__ == "__main__":
